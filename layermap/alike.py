@@ -1,0 +1,148 @@
+"""Whether two stacks are alike for all that can be done with them."""
+
+from layermap.deeds import done
+from layermap.kinds import is_column, is_deed, is_integer
+from layermap.stacks import check_stack, flat
+
+# Values are only passed on, and the hooks know no others than 0 and 1: whatever
+# deeds with any values tell apart, as many deeds with these values tell apart.
+OWN_DEEDS = (("ask",), ("has",), ("write", 0), ("write", 1), ("forget",))
+SHARED_DEEDS = (("beneath", 0), ("beneath", 1), ("beneath", None))
+
+
+class Alike:
+    """A closed list of pairs of columns, which shows that two stacks are alike."""
+
+    def __init__(self, pairs):
+        self.pairs = list(pairs)
+
+    def __len__(self):
+        return len(self.pairs)
+
+    def __iter__(self):
+        return iter(self.pairs)
+
+    def __eq__(self, other):
+        return isinstance(other, Alike) and self.pairs == other.pairs
+
+    def shows(self, one, other, *, shared=True):
+        check_both(one, other)
+        if not all([is_pair(pair, one, other) for pair in self.pairs]):
+            return False
+        listed = {pair: True for pair in self.pairs}
+        if not all([pair in listed for pair in first_pairs(one, other)]):
+            return False
+        deeds = compared_deeds(shared)
+        return all([is_closed(listed, pair, one, other, deeds) for pair in listed])
+
+
+class Parts:
+    """A key and deeds, to the last of which two stacks have different answers."""
+
+    def __init__(self, key, deeds):
+        self.key = key
+        self.deeds = deeds
+
+    def __len__(self):
+        return len(self.deeds)
+
+    def __eq__(self, other):
+        return isinstance(other, Parts) and self.key == other.key and self.deeds == other.deeds
+
+    def shows(self, one, other, *, shared=True):
+        check_both(one, other)
+        if not is_integer(self.key) or not are_compared(self.deeds, shared):
+            return False
+        return last_answer(one, self.key, self.deeds) != last_answer(other, self.key, self.deeds)
+
+
+def alike(one, other, *, shared=True):
+    """An Alike, or a Parts with as few deeds as possible."""
+    check_both(one, other)
+    deeds = compared_deeds(shared)
+    ways = {pair: (key, ()) for pair, key in first_pairs(one, other).items()}
+    pairs = list(ways)
+    at = 0
+    while at < len(pairs):
+        key, before = ways[pairs[at]]
+        for deed in deeds:
+            after = pair_after(one, other, pairs[at], deed)
+            if after is None:
+                return Parts(key, before + (deed,))
+            if after not in ways:
+                ways[after] = (key, before + (deed,))
+                pairs.append(after)
+        at += 1
+    return Alike(pairs)
+
+
+def soonest(one, other, *, shared=True):
+    """The least number of deeds that part two stacks, None if they are alike."""
+    found = alike(one, other, shared=shared)
+    return len(found) if isinstance(found, Parts) else None
+
+
+def is_flat(stack, *, shared=True):
+    return soonest(stack, flat(stack), shared=shared) is None
+
+
+def check_both(one, other):
+    check_stack(one)
+    check_stack(other)
+
+
+def compared_deeds(shared):
+    """The deeds by which stacks are compared."""
+    return OWN_DEEDS + SHARED_DEEDS if shared else OWN_DEEDS
+
+
+def are_compared(deeds, shared):
+    """Whether these are one or more deeds that may be done, with any values."""
+    if not isinstance(deeds, tuple) or len(deeds) == 0:
+        return False
+    return all([is_deed(deed) and (shared or deed[0] != "beneath") for deed in deeds])
+
+
+def first_pairs(one, other):
+    """A dict from the pairs of columns of all keys, one that no layer has too, to such a key."""
+    held = sorted(set(one.held() + other.held()))
+    found = {}
+    for key in held + [unheld_key(held)]:
+        found.setdefault((one.column(key), other.column(key)), key)
+    return found
+
+
+def unheld_key(held):
+    known = {key: True for key in held}
+    key = 0
+    while key in known:
+        key += 1
+    return key
+
+
+def pair_after(one, other, pair, deed):
+    """The pair of columns after a deed, None if the answers to it are different."""
+    answer, column = done(one.layers, pair[0], deed)
+    reply, opposite = done(other.layers, pair[1], deed)
+    return (column, opposite) if answer == reply else None
+
+
+def is_pair(pair, one, other):
+    """Whether this is a pair of a column of the one stack and one of the other."""
+    if not isinstance(pair, tuple) or len(pair) != 2:
+        return False
+    return is_column(pair[0], len(one.layers)) and is_column(pair[1], len(other.layers))
+
+
+def is_closed(listed, pair, one, other, deeds):
+    """Whether both have the same answers at a pair, and the pairs after it are listed."""
+    # Different answers give None, which is never listed.
+    return all([pair_after(one, other, pair, deed) in listed for deed in deeds])
+
+
+def last_answer(stack, key, deeds):
+    """The answer to the last one of deeds at a key, done without changing the stack."""
+    answer, column = None, stack.column(key)
+    for deed in deeds:
+        answer, column = done(stack.layers, column, deed)
+    return answer

@@ -1,0 +1,173 @@
+"""A second, plain way to do deeds, written after the words of the document.
+
+It shares no code with the package: layers are objects that change, and
+asking, writing and forgetting go from one to the next.
+"""
+
+import itertools
+import random
+
+WRITES = ("here", "down", "both")
+FORGETS = ("here", "hide", "down", "both")
+READS = ("look", "keep", "shut")
+HOOKS = (None, ("told", 0), ("told", 1), ("made", 0), ("made", 1))
+ALL_LAYERS = tuple(itertools.product(WRITES, FORGETS, READS, HOOKS))
+PLAIN = ("here", "here", "look", None)
+
+ALONE = [("ask",), ("has",), ("write", 0), ("write", 1), ("forget",)]
+SHARED = ALONE + [("beneath", 0), ("beneath", 1), ("beneath", None)]
+
+
+class Level:
+    """What one layer has for one key, and the level below it."""
+
+    def __init__(self, layer, held, below):
+        self.write_word, self.forget_word, self.read_word, self.hook = layer
+        self.value = held if isinstance(held, int) else None
+        self.hidden = held == "hidden"
+        self.below = below
+
+    def held(self):
+        return "hidden" if self.hidden else self.value
+
+    def put(self, value):
+        self.value, self.hidden = value, False
+
+    def seen(self):
+        if self.value is not None:
+            return self.value
+        if self.hidden or self.read_word == "shut" or self.below is None:
+            return None
+        return self.below.seen()
+
+    def ask(self):
+        if self.value is not None:
+            return self.value
+        if not self.hidden and self.read_word != "shut" and self.below is not None:
+            answer = self.below.ask()
+            if answer is not None:
+                if self.read_word == "keep":
+                    self.put(answer)
+                return answer
+        if self.hook is None:
+            return None
+        if self.hook[0] == "made":
+            self.write(self.hook[1])
+        return self.hook[1]
+
+    def write(self, value):
+        word = "here" if self.below is None else self.write_word
+        if word in ("here", "both"):
+            self.put(value)
+        if word in ("down", "both"):
+            self.below.write(value)
+
+    def forget(self):
+        word = self.forget_word
+        if self.below is None and word in ("down", "both"):
+            word = "here"
+        if word == "hide":
+            if self.seen() is None:
+                return False
+            self.value, self.hidden = None, True
+            return True
+        answers = []
+        if word in ("here", "both"):
+            answers.append(self.value is not None)
+            if self.value is not None:
+                self.value = None
+        if word in ("down", "both"):
+            answers.append(self.below.forget())
+        return any(answers)
+
+
+class Column:
+    """The levels of a stack at one key."""
+
+    def __init__(self, layers, column):
+        self.levels = []
+        below = None
+        for layer, held in zip(reversed(layers), reversed(column)):
+            below = Level(layer, held, below)
+            self.levels.insert(0, below)
+
+    def held(self):
+        return tuple(level.held() for level in self.levels)
+
+    def seen(self):
+        return self.levels[0].seen()
+
+    def do(self, deed):
+        word, *rest = deed
+        if word == "ask":
+            return self.levels[0].ask()
+        if word == "has":
+            return self.levels[0].seen() is not None
+        if word == "write":
+            return self.levels[0].write(*rest)
+        if word == "forget":
+            return self.levels[0].forget()
+        self.levels[-1].put(*rest)
+        return None
+
+
+def after(layers, column, deed):
+    """The answer to a deed, and the column after it."""
+    levels = Column(layers, column)
+    return levels.do(deed), levels.held()
+
+
+def answers(layers, column, deeds):
+    levels = Column(layers, column)
+    return [levels.do(deed) for deed in deeds]
+
+
+def closed(one, other, pairs, shared):
+    """Whether pairs show that two stacks, given as layers and columns by key, are alike."""
+    for key in [*one[1], *other[1], None]:
+        blank, empty = (None,) * len(one[0]), (None,) * len(other[0])
+        if (one[1].get(key, blank), other[1].get(key, empty)) not in pairs:
+            return False
+    for first, second in pairs:
+        for deed in SHARED if shared else ALONE:
+            answer, column = after(one[0], first, deed)
+            reply, opposite = after(other[0], second, deed)
+            if answer != reply or (column, opposite) not in pairs:
+                return False
+    return True
+
+
+def least(one, other, starts, deeds, most):
+    """The least number of deeds, up to a most, that part two stacks from pairs of columns on."""
+    for count in range(1, most + 1):
+        for some in itertools.product(deeds, repeat=count):
+            for first, second in starts:
+                if answers(one, first, some)[-1] != answers(other, second, some)[-1]:
+                    return count
+    return None
+
+
+def chance(seed):
+    """The same numbers in each run."""
+    return random.Random(seed)
+
+
+def any_layers(numbers, count):
+    return tuple(numbers.choice(ALL_LAYERS) for _ in range(count))
+
+
+def any_contents(numbers, count, most=3):
+    held = [None, "hidden", 0, 1, 7, -3]
+    found = tuple({} for _ in range(count))
+    for key in range(numbers.randrange(most)):
+        for content in found:
+            some = numbers.choice(held)
+            if some is not None:
+                content[key] = some
+    return found
+
+
+def columns(contents):
+    """The columns of the keys at which any layer has something."""
+    keys = sorted({key for content in contents for key in content})
+    return {key: tuple(content.get(key) for content in contents) for key in keys}
