@@ -1,6 +1,6 @@
 """Whether two stacks are alike for all that can be done with them."""
 
-from layermap.deeds import done
+from layermap.deeds import done, done_in_turn
 from layermap.kinds import is_column, is_deed, is_integer
 from layermap.stacks import check_stack, flat
 
@@ -51,7 +51,7 @@ class Parts:
 
     def shows(self, one, other, *, shared=True):
         check_both(one, other)
-        if not is_integer(self.key) or not are_compared(self.deeds, shared):
+        if not is_integer(self.key) or not can_part(self.deeds, shared):
             return False
         return last_answer(one, self.key, self.deeds) != last_answer(other, self.key, self.deeds)
 
@@ -59,8 +59,12 @@ class Parts:
 def alike(one, other, *, shared=True):
     """An Alike, or a Parts with as few deeds as possible."""
     check_both(one, other)
-    deeds = compared_deeds(shared)
-    ways = {pair: (key, ()) for pair, key in first_pairs(one, other).items()}
+    return compared(one, other, first_pairs(one, other), compared_deeds(shared))
+
+
+def compared(one, other, starts, deeds):
+    """An Alike, or a Parts with as few deeds as possible, from the pairs of columns in a dict on."""
+    ways = {pair: (starts[pair], ()) for pair in starts}
     pairs = list(ways)
     at = 0
     while at < len(pairs):
@@ -78,7 +82,11 @@ def alike(one, other, *, shared=True):
 
 def soonest(one, other, *, shared=True):
     """The least number of deeds that part two stacks, None if they are alike."""
-    found = alike(one, other, shared=shared)
+    return count_of_deeds(alike(one, other, shared=shared))
+
+
+def count_of_deeds(found):
+    """The number of deeds of a Parts, None for an Alike."""
     return len(found) if isinstance(found, Parts) else None
 
 
@@ -96,11 +104,16 @@ def compared_deeds(shared):
     return OWN_DEEDS + SHARED_DEEDS if shared else OWN_DEEDS
 
 
-def are_compared(deeds, shared):
-    """Whether these are one or more deeds that may be done, with any values."""
-    if not isinstance(deeds, tuple) or len(deeds) == 0:
+def are_deeds(things, shared):
+    """Whether this is a tuple, perhaps empty, of deeds that may be done, with any values."""
+    if not isinstance(things, tuple):
         return False
-    return all([is_deed(deed) and (shared or deed[0] != "beneath") for deed in deeds])
+    return all([is_deed(thing) and (shared or thing[0] != "beneath") for thing in things])
+
+
+def can_part(things, shared):
+    """Whether these are one or more deeds that may be done, with any values."""
+    return are_deeds(things, shared) and len(things) > 0
 
 
 def first_pairs(one, other):
@@ -142,7 +155,4 @@ def is_closed(listed, pair, one, other, deeds):
 
 def last_answer(stack, key, deeds):
     """The answer to the last one of deeds at a key, done without changing the stack."""
-    answer, column = None, stack.column(key)
-    for deed in deeds:
-        answer, column = done(stack.layers, column, deed)
-    return answer
+    return done_in_turn(stack.layers, stack.column(key), deeds)[0]

@@ -26,6 +26,14 @@ def done(layers, column, deed):
     return None, placed(column, len(column) - 1, deed[1])
 
 
+def done_in_turn(layers, column, deeds):
+    """The answer to the last one of deeds, None if there are none, and the column after them."""
+    answer = None
+    for deed in deeds:
+        answer, column = done(layers, column, deed)
+    return answer, column
+
+
 def placed(column, at, held):
     return column[:at] + (held,) + column[at + 1:]
 

@@ -120,6 +120,11 @@ class Stack:
     def twin(self):
         return Stack(self._layers, self._contents())
 
+    def chosen(self, choice):
+        """A stack of the layers at the indices of a choice, with what they have."""
+        contents = self._contents()
+        return Stack(tuple([self._layers[at] for at in choice]), tuple([contents[at] for at in choice]))
+
     def _contents(self):
         """What each layer has, as the stack could be made of it again."""
         columns = self._columns

@@ -13,9 +13,22 @@ READS = ("look", "keep", "shut")
 HOOKS = (None, ("told", 0), ("told", 1), ("made", 0), ("made", 1))
 ALL_LAYERS = tuple(itertools.product(WRITES, FORGETS, READS, HOOKS))
 PLAIN = ("here", "here", "look", None)
+THROUGH = ("both", "both", "look", None)
+CACHE = ("here", "here", "keep", None)
+TOLD = ("here", "here", "look", ("told", 0))
+HIDING = ("here", "hide", "look", None)
+SHUT = ("here", "here", "shut", None)
+IDLE = ("down", "down", "look", None)
 
 ALONE = [("ask",), ("has",), ("write", 0), ("write", 1), ("forget",)]
 SHARED = ALONE + [("beneath", 0), ("beneath", 1), ("beneath", None)]
+PROMISES = ["written", "gone", "match", "steady", "still", "true", "open"]
+
+NO_STACKS = [None, 5, True, "stack", b"stack", {}, {1: 2}, [], (), (PLAIN,), ((PLAIN,), ({},)), int, object()]
+WRONG_DEEDS = [
+    (), ("ask", None), ("ask", 1), ("asks",), ("write",), ("write", None), ("write", "1"), ("has", 0), (0,), (None,),
+    ("beneath",), ("beneath", "x"), ("beneath", 1, 2), ("forget", None), ("write", True), ("beneath", False), ("hidden",),
+]
 
 
 class Level:
@@ -147,6 +160,60 @@ def least(one, other, starts, deeds, most):
     return None
 
 
+def distance(one, other, starts, deeds):
+    """The least number of deeds that part two stacks from pairs of columns on, None if no deeds do."""
+    known, turn, count = set(starts), list(starts), 0
+    while turn:
+        count, later = count + 1, []
+        for first, second in turn:
+            for deed in deeds:
+                answer, column = after(one, first, deed)
+                reply, opposite = after(other, second, deed)
+                if answer != reply:
+                    return count
+                if (column, opposite) not in known:
+                    known.add((column, opposite))
+                    later.append((column, opposite))
+        turn = later
+    return None
+
+
+def reachable(layers, starts, deeds):
+    """All columns that come about by deeds from some on."""
+    known, turn = set(starts), list(starts)
+    while turn:
+        column = turn.pop()
+        for deed in deeds:
+            later = after(layers, column, deed)[1]
+            if later not in known:
+                known.add(later)
+                turn.append(later)
+    return known
+
+
+def keeps(layers, column, word, values):
+    """Whether a promise is kept at a column, for these values, and None where it may stand beneath."""
+    def last(*deeds):
+        return answers(layers, column, deeds)[-1]
+
+    if word == "written":
+        return all(last(("write", value), ("ask",)) == value for value in values)
+    if word == "gone":
+        return last(("forget",), ("has",)) is False
+    if word == "match":
+        has, found = answers(layers, column, [("has",), ("ask",)])
+        return has is (found is not None)
+    if word == "steady":
+        first, second = answers(layers, column, [("ask",), ("ask",)])
+        return first == second
+    if word == "still":
+        return after(layers, column, ("ask",))[1] == column
+    if word == "true":
+        has, forgotten = answers(layers, column, [("has",), ("forget",)])
+        return has is forgotten
+    return all(last(("beneath", value), ("ask",)) == value for value in [*values, None])
+
+
 def chance(seed):
     """The same numbers in each run."""
     return random.Random(seed)
@@ -167,7 +234,24 @@ def any_contents(numbers, count, most=3):
     return found
 
 
+def sampled_stacks(seed, count):
+    """Layers and what they have: any, and often such as do little or what many stacks do."""
+    numbers = chance(seed)
+    usual = [PLAIN, THROUGH, CACHE, HIDING, SHUT, IDLE, TOLD]
+    for _ in range(count):
+        many = numbers.randrange(1, 4)
+        layers = tuple(numbers.choice(usual if numbers.randrange(3) else ALL_LAYERS) for _ in range(many))
+        yield layers, ({},) * many if numbers.randrange(3) == 0 else any_contents(numbers, many)
+
+
 def columns(contents):
     """The columns of the keys at which any layer has something."""
     keys = sorted({key for content in contents for key in content})
     return {key: tuple(content.get(key) for content in contents) for key in keys}
+
+
+def starts(one, other, contents, opposite):
+    """The pairs of columns of all keys of two stacks, also of one that no layer has."""
+    first, second = columns(contents), columns(opposite)
+    blank, empty = (None,) * len(one), (None,) * len(other)
+    return [(first.get(key, blank), second.get(key, empty)) for key in [*first, *second, None]]

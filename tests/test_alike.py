@@ -6,19 +6,8 @@ import unittest
 from layermap.alike import Alike, Parts, alike, is_flat, soonest
 from layermap.errors import BadStack
 from layermap.stacks import Stack, flat
-from reference import ALL_LAYERS, ALONE, PLAIN, SHARED, answers, any_contents, any_layers, chance, closed, columns, least
-
-THROUGH = ("both", "both", "look", None)
-CACHE = ("here", "here", "keep", None)
-TOLD = ("here", "here", "look", ("told", 0))
-HIDING = ("here", "hide", "look", None)
-
-
-def starts(one, other, contents, opposite):
-    """The pairs of columns of all keys, also of one that no layer has."""
-    first, second = columns(contents), columns(opposite)
-    blank, empty = (None,) * len(one), (None,) * len(other)
-    return [(first.get(key, blank), second.get(key, empty)) for key in [*first, *second, None]]
+from reference import ALL_LAYERS, ALONE, CACHE, HIDING, PLAIN, SHARED, THROUGH, TOLD, WRONG_DEEDS
+from reference import answers, any_contents, any_layers, chance, closed, columns, least, starts
 
 
 def sampled(seed, count):
@@ -308,11 +297,7 @@ class PartsShowsTest(unittest.TestCase):
 
     def test_tuples_that_are_no_deeds(self):
         one, other = Stack.plain({3: 1}), Stack.plain({3: 2})
-        for wrong in (
-            (), ("ask", None), ("ask", 1), ("asks",), ("write",), ("write", None), ("write", "1"), ("has", 0), (0,),
-            (None,), ("beneath",), ("beneath", "x"), ("beneath", 1, 2), ("forget", None), ("write", True),
-            ("beneath", False),
-        ):
+        for wrong in WRONG_DEEDS:
             self.assertIs(Parts(3, (wrong, ("ask",))).shows(one, other), False, wrong)
             self.assertIs(Parts(3, (("ask",), wrong)).shows(one, other), False, wrong)
             self.assertIs(Parts(3, (wrong,)).shows(one, other), False, wrong)

@@ -14,18 +14,40 @@ STACKS = """
 [[7, (None, 7), 7, (7, 7), 0, True, 2], [7, True, 9, False, [5, 6], True], [True, None, False, None, True], (4, 1)]
 """
 
-# What speaks of layermap.fewest is left out.
-ALIKE = """
+FEWEST = """
 >>> from layermap.alike import Alike, Parts, alike, is_flat, soonest
+>>> from layermap.fewest import fewest, fewest_size
 >>> from layermap.stacks import Stack
 >>> plain, through = ('here', 'here', 'look', None), ('both', 'both', 'look', None)
 >>> double, single = Stack.of(through, plain), Stack.of(plain)
->>> facts = [soonest(double, single), soonest(double, single, shared=False), is_flat(double), is_flat(double, shared=False)]
+>>> facts = [soonest(double, single), soonest(double, single, shared=False), is_flat(double), is_flat(double, shared=False), fewest_size(double), fewest_size(double, shared=False)]
 >>> deeds = (('write', 0), ('beneath', 1), ('ask',))
 >>> shown = [Parts(3, deeds).shows(double, single), Parts(3, deeds[:2]).shows(double, single), Parts(3, deeds).shows(double, single, shared=False), Alike([((None, None), (None,))]).shows(double, single, shared=False)]
 >>> pairs = [((None, None), (None,)), ((0, 0), (0,)), ((1, 1), (1,))]
->>> [facts, shown, Alike(pairs).shows(double, single, shared=False), Alike(pairs).shows(double, single), alike(double, single, shared=False).shows(double, single, shared=False)]
-[[3, None, False, True], [True, False, False, False], True, False, True]
+>>> [facts, shown, Alike(pairs).shows(double, single, shared=False), Alike(pairs).shows(double, single), alike(double, single, shared=False).shows(double, single, shared=False), fewest(double, shared=False).kept]
+[[3, None, False, True, 2, 1], [True, False, False, False], True, False, True, (1,)]
+"""
+
+CLASSES = """
+>>> from layermap.classes import Classes, apart, classes
+>>> from layermap.promises import Broken, Kept, promised, promises
+>>> from layermap.stacks import Stack
+>>> plain, cache = Stack.plain({}), Stack.of(('here', 'here', 'keep', None), ('here', 'here', 'look', None))
+>>> tests = {(0, 1): (('has',),), (0, 2): (('ask',),), (1, 2): (('write', 5), ('beneath', None), ('ask',))}
+>>> shown = [Classes([[(None,), ('hidden',)], [(0,)], [(1,)]], some).shows(plain) for some in (tests, {**tests, (1, 2): (('ask',),)}, {})]
+>>> facts = [len(classes(plain)), classes(plain).shows(plain), shown, apart(plain, (0,), (1,)), apart(plain, (None,), ('hidden',)), apart(cache, (4, 5), (4, 6)), apart(cache, (4, 5), (4, 6), shared=False)]
+>>> [facts, promises(cache)]
+[[3, True, [False, True, False], 1, None, 2, 2], {'written': True, 'gone': False, 'match': True, 'steady': True, 'still': False, 'true': False, 'open': False}]
+"""
+
+PROMISES = """
+>>> from layermap.promises import Broken, Kept, promised, promises
+>>> from layermap.stacks import Stack
+>>> cache, told = Stack.of(('here', 'here', 'keep', None), ('here', 'here', 'look', None)), Stack.of(('here', 'here', 'look', ('told', 0)))
+>>> broken = [Broken(4, deeds).shows(cache, 'still') for deeds in ((('beneath', 1),), (), (('beneath', 9), ('ask',)))]
+>>> kept = [Kept([(None, None), (0, None), (1, None)]).shows(cache, 'gone', shared=False), Kept([(None, None), (0, None), (1, None)]).shows(cache, 'gone'), Kept([(None, None)]).shows(cache, 'gone', shared=False)]
+>>> [broken, kept, promises(cache, shared=False) == {word: True for word in ('written', 'gone', 'match', 'steady', 'still', 'true')}, promises(told)['match'], promised(told, 'match').shows(told, 'match')]
+[[True, False, False], [True, False, False], True, False, True]
 """
 
 
@@ -33,7 +55,8 @@ def load_tests(loader, tests, pattern):
     import doctest
 
     parser = doctest.DocTestParser()
-    for name, text in (("stacks", STACKS), ("alike", ALIKE)):
+    examples = (("stacks", STACKS), ("fewest", FEWEST), ("classes", CLASSES), ("promises", PROMISES))
+    for name, text in examples:
         tests.addTest(doctest.DocTestCase(parser.get_doctest(text, {}, name, None, None)))
     return tests
 

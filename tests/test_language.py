@@ -6,7 +6,7 @@ import os
 import unittest
 
 import layermap
-from layermap import alike, errors, stacks
+from layermap import alike, classes, errors, fewest, promises, stacks
 
 FOLDER = os.path.dirname(layermap.__file__)
 OTHER_WORDS = {
@@ -30,6 +30,9 @@ class InterfaceTest(unittest.TestCase):
                      "NothingDone", "BadSteps", "BadText", "BadHands", "BadLayer", "BadFlag"],
             stacks: ["Stack", "flat"],
             alike: ["alike", "soonest", "is_flat", "Alike", "Parts"],
+            fewest: ["fewest", "fewest_size", "Fewest"],
+            classes: ["classes", "apart", "Classes"],
+            promises: ["promised", "promises", "Kept", "Broken"],
         }
         for module, names in listed.items():
             for name in names:
@@ -41,6 +44,10 @@ class InterfaceTest(unittest.TestCase):
                            "__contains__", "visible", "column", "ask", "forget", "beneath", "do", "__ior__", "__add__", "twin"],
             alike.Alike: ["__init__", "__len__", "__iter__", "__eq__", "shows"],
             alike.Parts: ["__init__", "__len__", "__eq__", "shows"],
+            fewest.Fewest: ["__init__", "__iter__", "__eq__", "shows"],
+            classes.Classes: ["__init__", "__len__", "__iter__", "__eq__", "shows"],
+            promises.Kept: ["__init__", "__len__", "__iter__", "__eq__", "shows"],
+            promises.Broken: ["__init__", "__len__", "__eq__", "shows"],
         }
         for one, names in listed.items():
             for name in names:
@@ -59,6 +66,13 @@ class InterfaceTest(unittest.TestCase):
             alike.is_flat: "(stack, *, shared=True)", alike.Alike: "(pairs)", alike.Parts: "(key, deeds)",
             alike.Alike.shows: "(self, one, other, *, shared=True)",
             alike.Parts.shows: "(self, one, other, *, shared=True)",
+            fewest.fewest: "(stack, *, shared=True)", fewest.fewest_size: "(stack, *, shared=True)",
+            fewest.Fewest: "(kept, pairs, parts)", fewest.Fewest.shows: "(self, stack, *, shared=True)",
+            classes.classes: "(stack, *, shared=True)", classes.apart: "(stack, one, other, *, shared=True)",
+            classes.Classes: "(groups, tests)", classes.Classes.shows: "(self, stack, *, shared=True)",
+            promises.promised: "(stack, promise, *, shared=True)", promises.promises: "(stack, *, shared=True)",
+            promises.Kept: "(columns)", promises.Kept.shows: "(self, stack, promise, *, shared=True)",
+            promises.Broken: "(key, deeds)", promises.Broken.shows: "(self, stack, promise, *, shared=True)",
         }
         for thing, text in listed.items():
             self.assertEqual(str(inspect.signature(thing)), text, thing)

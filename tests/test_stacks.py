@@ -4,7 +4,7 @@ import unittest
 
 from layermap.errors import BadDeed, BadKey, BadStack, BadValue, LayerError, Missing
 from layermap.stacks import Stack, flat
-from reference import PLAIN, any_contents, any_layers, chance, columns
+from reference import CACHE, HIDING, PLAIN, any_contents, any_layers, chance, columns
 
 NO_INTEGERS = [None, True, False, "1", b"1", "hidden", [], [1], {}, {1: 2}, (), (1,), set(), Stack.plain({}), object()]
 
@@ -14,9 +14,6 @@ NO_DEEDS = [
     ("beneath", False), ("beneath", "hidden"), ("beneath", [None]), ("beneath", 1, 2), ("Ask",), ("hide",), (None,),
     (0,), (["ask"],), (("ask",),), ({},), ("told", 0), (["write"], 1), ("", 1), ("seen",), ["write", 1],
 ]
-
-CACHE = ("here", "here", "keep", None)
-HIDING = ("here", "hide", "look", None)
 
 
 def sample():
