@@ -2,12 +2,8 @@
 
 from layermap.deeds import done, done_in_turn
 from layermap.kinds import is_column, is_deed, is_integer
+from layermap.search import compared_deeds, is_closed, search
 from layermap.stacks import check_stack, flat
-
-# Values are only passed on, and the hooks know no others than 0 and 1: whatever
-# deeds with any values tell apart, as many deeds with these values tell apart.
-OWN_DEEDS = (("ask",), ("has",), ("write", 0), ("write", 1), ("forget",))
-SHARED_DEEDS = (("beneath", 0), ("beneath", 1), ("beneath", None))
 
 
 class Alike:
@@ -29,11 +25,8 @@ class Alike:
         check_both(one, other)
         if not all([is_pair(pair, one, other) for pair in self.pairs]):
             return False
-        listed = {pair: True for pair in self.pairs}
-        if not all([pair in listed for pair in first_pairs(one, other)]):
-            return False
-        deeds = compared_deeds(shared)
-        return all([is_closed(listed, pair, one, other, deeds) for pair in listed])
+        starts, deeds = first_pairs(one, other), compared_deeds(shared)
+        return is_closed(self.pairs, starts, deeds, pairs_after(one, other), has_parted)
 
 
 class Parts:
@@ -64,20 +57,11 @@ def alike(one, other, *, shared=True):
 
 def compared(one, other, starts, deeds):
     """An Alike, or a Parts with as few deeds as possible, from the pairs of columns in a dict on."""
-    ways = {pair: (starts[pair], ()) for pair in starts}
-    pairs = list(ways)
-    at = 0
-    while at < len(pairs):
-        key, before = ways[pairs[at]]
-        for deed in deeds:
-            after = pair_after(one, other, pairs[at], deed)
-            if after is None:
-                return Parts(key, before + (deed,))
-            if after not in ways:
-                ways[after] = (key, before + (deed,))
-                pairs.append(after)
-        at += 1
-    return Alike(pairs)
+    pairs, wrong = search(starts, deeds, pairs_after(one, other), has_parted)
+    if wrong is None:
+        return Alike(pairs)
+    _, key, parting = wrong
+    return Parts(key, parting)
 
 
 def soonest(one, other, *, shared=True):
@@ -97,11 +81,6 @@ def is_flat(stack, *, shared=True):
 def check_both(one, other):
     check_stack(one)
     check_stack(other)
-
-
-def compared_deeds(shared):
-    """The deeds by which stacks are compared."""
-    return OWN_DEEDS + SHARED_DEEDS if shared else OWN_DEEDS
 
 
 def are_deeds(things, shared):
@@ -133,6 +112,11 @@ def unheld_key(held):
     return key
 
 
+def pairs_after(one, other):
+    """A function that gives the pair of columns after a pair and a deed."""
+    return lambda pair, deed: pair_after(one, other, pair, deed)
+
+
 def pair_after(one, other, pair, deed):
     """The pair of columns after a deed, None if the answers to it are different."""
     answer, column = done(one.layers, pair[0], deed)
@@ -140,17 +124,16 @@ def pair_after(one, other, pair, deed):
     return (column, opposite) if answer == reply else None
 
 
+def has_parted(pair):
+    """Whether there is no pair any more, since the answers were different."""
+    return pair is None
+
+
 def is_pair(pair, one, other):
     """Whether this is a pair of a column of the one stack and one of the other."""
     if not isinstance(pair, tuple) or len(pair) != 2:
         return False
     return is_column(pair[0], len(one.layers)) and is_column(pair[1], len(other.layers))
-
-
-def is_closed(listed, pair, one, other, deeds):
-    """Whether both have the same answers at a pair, and the pairs after it are listed."""
-    # Different answers give None, which is never listed.
-    return all([pair_after(one, other, pair, deed) in listed for deed in deeds])
 
 
 def last_answer(stack, key, deeds):

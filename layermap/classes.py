@@ -1,9 +1,10 @@
 """Which columns of a stack can be told apart by what is done with them, and by which deeds."""
 
-from layermap.alike import can_part, compared, compared_deeds, count_of_deeds
+from layermap.alike import can_part, compared, count_of_deeds
 from layermap.deeds import done, done_in_turn
 from layermap.errors import BadColumn
 from layermap.kinds import is_column, is_integer
+from layermap.search import compared_deeds
 from layermap.stacks import check_stack
 
 HELD = (None, "hidden", 0, 1)

@@ -33,8 +33,9 @@ def is_layer(thing):
     return is_word(write, WRITES) and is_word(forget, FORGETS) and is_word(read, READS) and is_hook(hook)
 
 
-def are_layers(thing):
-    if not isinstance(thing, tuple) or not 1 <= len(thing) <= MOST_LAYERS:
+def are_layers(thing, least, most):
+    """Whether this is a tuple of so many layers."""
+    if not isinstance(thing, tuple) or not least <= len(thing) <= most:
         return False
     return all([is_layer(layer) for layer in thing])
 

@@ -1,13 +1,11 @@
 """What a stack promises, at each column that can come about in it."""
 
-from layermap.alike import are_deeds, compared_deeds, unheld_key
+from layermap.alike import are_deeds, unheld_key
 from layermap.deeds import done, done_in_turn
 from layermap.errors import BadPromise
 from layermap.kinds import is_column, is_integer, is_word
+from layermap.search import VALUES, compared_deeds, is_closed, reached, search
 from layermap.stacks import check_stack
-
-# Values are only passed on: a promise that is kept for these is kept for all values.
-VALUES = (0, 1)
 
 
 class Kept:
@@ -31,13 +29,8 @@ class Kept:
         layers = stack.layers
         if not all([is_column(column, len(layers)) for column in self.columns]):
             return False
-        listed = {column: True for column in self.columns}
-        if not all([column in listed for column in first_columns(stack)]):
-            return False
-        deeds = compared_deeds(shared)
-        if not all([done(layers, column, deed)[1] in listed for column in listed for deed in deeds]):
-            return False
-        return all([is_kept(layers, column, promise) for column in listed])
+        starts, deeds = first_columns(stack), compared_deeds(shared)
+        return is_closed(self.columns, starts, deeds, columns_after(layers), breaks(layers, promise))
 
 
 class Broken:
@@ -66,17 +59,18 @@ def promised(stack, promise, *, shared=True):
     """A Kept, or a Broken with as few deeds as possible."""
     check_stack(stack)
     check_promise(promise, shared)
-    ways = reached(stack, compared_deeds(shared))
-    for column, (key, deeds) in ways.items():
-        if not is_kept(stack.layers, column, promise):
-            return Broken(key, deeds)
-    return Kept(list(ways))
+    starts, deeds = first_columns(stack), compared_deeds(shared)
+    columns, wrong = search(starts, deeds, columns_after(stack.layers), breaks(stack.layers, promise))
+    if wrong is None:
+        return Kept(columns)
+    _, key, breaking = wrong
+    return Broken(key, breaking)
 
 
 def promises(stack, *, shared=True):
     """A dict from the words of all promises to whether a stack keeps them."""
     check_stack(stack)
-    columns = list(reached(stack, compared_deeds(shared)))
+    columns = reached(first_columns(stack), compared_deeds(shared), columns_after(stack.layers))
     return {
         word: all([is_kept(stack.layers, column, word) for column in columns]) for word in promise_words(shared)
     }
@@ -101,23 +95,14 @@ def first_columns(stack):
     return found
 
 
-def reached(stack, deeds):
-    """A dict from all columns that come about to a key and as few deeds as possible at it.
+def columns_after(layers):
+    """A function that gives the column after a column and a deed."""
+    return lambda column, deed: done(layers, column, deed)[1]
 
-    The columns that need fewer deeds stand first.
-    """
-    ways = {column: (key, ()) for column, key in first_columns(stack).items()}
-    columns = list(ways)
-    at = 0
-    while at < len(columns):
-        key, before = ways[columns[at]]
-        for deed in deeds:
-            after = done(stack.layers, columns[at], deed)[1]
-            if after not in ways:
-                ways[after] = (key, before + (deed,))
-                columns.append(after)
-        at += 1
-    return ways
+
+def breaks(layers, promise):
+    """A function that tells whether a promise is not kept at a column."""
+    return lambda column: not is_kept(layers, column, promise)
 
 
 def is_kept(layers, column, promise):

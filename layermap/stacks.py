@@ -2,7 +2,7 @@
 
 from layermap.deeds import done, seen
 from layermap.errors import BadDeed, BadKey, BadStack, BadValue, Missing
-from layermap.kinds import are_contents, are_layers, are_pairs, is_deed, is_integer
+from layermap.kinds import MOST_LAYERS, are_contents, are_layers, are_pairs, is_deed, is_integer
 
 PLAIN_LAYER = ("here", "here", "look", None)
 
@@ -27,7 +27,7 @@ class Stack:
     """One to three layers, the last of which is the base, with what they have."""
 
     def __init__(self, layers, contents=None):
-        if not are_layers(layers):
+        if not are_layers(layers, 1, MOST_LAYERS):
             raise BadStack("LAYERS")
         if contents is None:
             contents = ({},) * len(layers)
@@ -133,13 +133,26 @@ class Stack:
             for at in range(len(self._layers))
         ])
 
-    def _deed(self, key, deed):
-        answer, column = done(self._layers, self.column(key), deed)
+    def put(self, key, column):
+        """Lets a key have this column."""
         # A key that no layer has any more must not tell this stack from another one.
         if column == (None,) * len(column):
             self._columns.pop(key, None)
         else:
             self._columns[key] = column
+
+    def restoring(self, work, given):
+        """What a function returns that is called with what is given; afterwards, all columns are as before."""
+        columns = self._columns
+        self._columns = dict(columns)
+        try:
+            return work(given)
+        finally:
+            self._columns = columns
+
+    def _deed(self, key, deed):
+        answer, column = done(self._layers, self.column(key), deed)
+        self.put(key, column)
         return answer
 
 

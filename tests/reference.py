@@ -95,14 +95,12 @@ class Level:
 
 
 class Column:
-    """The levels of a stack at one key."""
+    """The levels of a stack at one key, perhaps above a base that is there already."""
 
-    def __init__(self, layers, column):
-        self.levels = []
-        below = None
+    def __init__(self, layers, column, base=None):
+        self.levels = [] if base is None else [base]
         for layer, held in zip(reversed(layers), reversed(column)):
-            below = Level(layer, held, below)
-            self.levels.insert(0, below)
+            self.levels.insert(0, Level(layer, held, self.levels[0] if self.levels else None))
 
     def held(self):
         return tuple(level.held() for level in self.levels)
@@ -212,6 +210,107 @@ def keeps(layers, column, word, values):
         has, forgotten = answers(layers, column, [("has",), ("forget",)])
         return has is forgotten
     return all(last(("beneath", value), ("ask",)) == value for value in [*values, None])
+
+
+class Place:
+    """The levels of two hands at one key: their columns share the level of the base."""
+
+    def __init__(self, hands, place=None):
+        first, second, base = hands
+        held = place or ((None,) * len(first), (None,) * len(second), None)
+        self.base = Level(base, held[2], None)
+        self.sides = [Column(first, held[0], self.base), Column(second, held[1], self.base)]
+
+    def held(self):
+        return (*(side.held()[:-1] for side in self.sides), self.base.held())
+
+    def do(self, step):
+        hand, deed = step
+        return self.sides[hand].do(deed)
+
+
+STEPS = [(hand, deed) for hand in (0, 1) for deed in ALONE]
+WORDS = ["agreed", "passed", "taken", "quiet", "own"]
+
+
+def place_behind(hands, place, steps):
+    """The answers to steps from a place on, and the place behind them."""
+    levels = Place(hands, place)
+    return [levels.do(step) for step in steps], levels.held()
+
+
+def holds(hands, place, word, values):
+    """Whether a word is kept at a place, for these values."""
+    def last(*steps):
+        return place_behind(hands, place, steps)[0][-1]
+
+    if word == "agreed":
+        return last((0, ("ask",))) == last((1, ("ask",)))
+    for this, other in ((0, 1), (1, 0)):
+        if word == "taken" and last((this, ("forget",)), (other, ("has",))) is not False:
+            return False
+        if word == "quiet" and last((other, ("ask",))) != last((this, ("ask",)), (other, ("ask",))):
+            return False
+        for value in values:
+            if word == "passed" and last((this, ("write", value)), (other, ("ask",))) != value:
+                return False
+            if word == "own" and last((this, ("write", value)), (other, ("ask",)), (this, ("ask",))) != value:
+                return False
+    return True
+
+
+def places_by_steps(hands, steps):
+    """A dict from all places that come about by steps to the least number of these."""
+    blank = Place(hands).held()
+    known, turn, count = {blank: 0}, [blank], 0
+    while turn:
+        count, later = count + 1, []
+        for place in turn:
+            for step in steps:
+                behind = place_behind(hands, place, [step])[1]
+                if behind not in known:
+                    known[behind] = count
+                    later.append(behind)
+        turn = later
+    return known
+
+
+def poured(layers, column):
+    """The column behind leaving a scope with these layers, and pouring what its first layer has."""
+    below = Column(layers[1:], column[1:])
+    if column[0] == "hidden":
+        below.do(("forget",))
+    elif column[0] is not None:
+        below.do(("write", column[0]))
+    return below.held()
+
+
+def betrayed(layers, layer, column, deeds):
+    """Whether the last answers differ, and whether the columns do behind pouring, if deeds are done at a column."""
+    scope, itself = Column((layer, *layers), (None, *column)), Column(layers, column)
+    last = [(scope.do(deed), itself.do(deed)) for deed in deeds][-1:]
+    return any(one != other for one, other in last), poured((layer, *layers), scope.held()) != itself.held()
+
+
+def betrayal(layers, layer, starts, deeds):
+    """The least number of deeds that show that a layer is not faithful, None if it is."""
+    turn = [((None, *column), column) for column in starts]
+    known, count, whole = set(turn), 0, (layer, *layers)
+    while turn:
+        if any(poured(whole, scope) != itself for scope, itself in turn):
+            return count
+        later = []
+        for scope, itself in turn:
+            for deed in deeds:
+                answer, above = after(whole, scope, deed)
+                reply, column = after(layers, itself, deed)
+                if answer != reply:
+                    return count + 1
+                if (above, column) not in known:
+                    known.add((above, column))
+                    later.append((above, column))
+        turn, count = later, count + 1
+    return None
 
 
 def chance(seed):

@@ -50,12 +50,48 @@ PROMISES = """
 [[True, False, False], [True, False, False], True, False, True]
 """
 
+SESSIONS = """
+>>> from layermap.sessions import Keys, Session
+>>> from layermap.stacks import Stack
+>>> from layermap.texts import read_stack, stack_text
+>>> stack = Stack((('here', 'hide', 'look', None), ('both', 'here', 'keep', ('told', 1))), ({5: 'hidden'}, {-2: 7, 5: 3}))
+>>> session = Session(stack)
+>>> keys = session.view()
+>>> found = [session.do(5, ('ask',)), session.do(5, ('write', 4)), keys.listed(), keys.seen(), session.tried([(5, ('forget',)), (5, ('has',))]), session.undo(), keys.listed()]
+>>> found = found + [len(keys), session.journal, Keys(stack).listed()]
+>>> [found, stack_text(stack), read_stack(stack_text(stack)) == stack]
+[[None, None, [-2, 5], [7, 4], [True, False], (5, ('write', 4)), [-2], 1, [(5, ('ask',), None)], [-2]], 'layer here hide look\\nlayer both here keep told 1\\nat -2 - 7\\nat 5 hidden 3\\n', True]
+"""
+
+HANDS = """
+>>> from layermap.hands import Asunder, Hands, answers, least_steps, place_after, together, words_kept
+>>> plain, cache, own = ('here', 'here', 'look', None), ('both', 'both', 'keep', None), ('here', 'hide', 'look', None)
+>>> hands = [Hands((), (), plain), Hands((cache,), (cache,), plain), Hands((own,), (), plain)]
+>>> steps = [(0, ('write', 5)), (1, ('ask',)), (0, ('write', 6)), (1, ('ask',))]
+>>> facts = [words_kept(one) for one in hands]
+>>> [[list(some.values()) for some in facts], answers(hands[1], steps), place_after(hands[1], steps), [least_steps(hands[1], word) for word in ('agreed', 'passed', 'own')], Asunder(steps[:3]).shows(hands[1], 'agreed')]
+[[[True, True, True, True, True], [False, False, False, True, True], [False, False, False, True, True]], [None, 5, None, 5], ((6,), (5,), 6), [2, 1, None], True]
+"""
+
+SCOPES = """
+>>> from layermap.scopes import Betrayal, entered, first_betrayal, is_faithful, left
+>>> from layermap.stacks import Stack
+>>> stack, own = Stack.plain({1: 1, 2: 2}), ('here', 'hide', 'look', None)
+>>> scope = entered(stack, own)
+>>> found = [scope.forget(1), scope.do(3, ('write', 4)), [scope.column(key) for key in (1, 2, 3)]]
+>>> [found, left(scope) == Stack.plain({2: 2, 3: 4}), left(scope, poured=False) == stack, is_faithful(stack, own), first_betrayal(stack, ('here', 'here', 'look', None)), first_betrayal(Stack.of(('here', 'here', 'look', ('told', 0))), own), Betrayal(1, (('forget',),), True).shows(stack, ('both', 'hide', 'look', None))]
+[[True, [None], [('hidden', 1), (None, 2), (4, None)]], True, True, True, 1, 3, False]
+"""
+
 
 def load_tests(loader, tests, pattern):
     import doctest
 
     parser = doctest.DocTestParser()
-    examples = (("stacks", STACKS), ("fewest", FEWEST), ("classes", CLASSES), ("promises", PROMISES))
+    examples = (
+        ("stacks", STACKS), ("fewest", FEWEST), ("classes", CLASSES), ("promises", PROMISES),
+        ("sessions", SESSIONS), ("hands", HANDS), ("scopes", SCOPES),
+    )
     for name, text in examples:
         tests.addTest(doctest.DocTestCase(parser.get_doctest(text, {}, name, None, None)))
     return tests

@@ -6,7 +6,7 @@ import os
 import unittest
 
 import layermap
-from layermap import alike, classes, errors, fewest, promises, stacks
+from layermap import alike, classes, errors, fewest, hands, promises, scopes, sessions, stacks, texts
 
 FOLDER = os.path.dirname(layermap.__file__)
 OTHER_WORDS = {
@@ -33,6 +33,10 @@ class InterfaceTest(unittest.TestCase):
             fewest: ["fewest", "fewest_size", "Fewest"],
             classes: ["classes", "apart", "Classes"],
             promises: ["promised", "promises", "Kept", "Broken"],
+            sessions: ["Keys", "Session"],
+            texts: ["stack_text", "read_stack"],
+            hands: ["Hands", "answers", "place_after", "together", "least_steps", "words_kept", "Together", "Asunder"],
+            scopes: ["entered", "left", "faithful", "is_faithful", "first_betrayal", "Faithful", "Betrayal"],
         }
         for module, names in listed.items():
             for name in names:
@@ -48,6 +52,14 @@ class InterfaceTest(unittest.TestCase):
             classes.Classes: ["__init__", "__len__", "__iter__", "__eq__", "shows"],
             promises.Kept: ["__init__", "__len__", "__iter__", "__eq__", "shows"],
             promises.Broken: ["__init__", "__len__", "__eq__", "shows"],
+            sessions.Keys: ["__init__", "__len__", "__contains__", "listed", "seen"],
+            sessions.Session: ["__init__", "journal", "__len__", "__iter__", "do", "view", "stack", "undo", "branch",
+                               "attempt", "tried"],
+            hands.Hands: ["__init__", "__eq__"],
+            hands.Together: ["__init__", "__eq__", "shows"],
+            hands.Asunder: ["__init__", "__eq__", "shows"],
+            scopes.Faithful: ["__init__", "__eq__", "shows"],
+            scopes.Betrayal: ["__init__", "__eq__", "shows"],
         }
         for one, names in listed.items():
             for name in names:
@@ -55,6 +67,7 @@ class InterfaceTest(unittest.TestCase):
         self.assertIsInstance(vars(stacks.Stack)["of"], classmethod)
         self.assertIsInstance(vars(stacks.Stack)["plain"], classmethod)
         self.assertIsInstance(vars(stacks.Stack)["layers"], property)
+        self.assertIsInstance(vars(sessions.Session)["journal"], property)
 
     def test_parameters(self):
         listed = {
@@ -73,6 +86,19 @@ class InterfaceTest(unittest.TestCase):
             promises.promised: "(stack, promise, *, shared=True)", promises.promises: "(stack, *, shared=True)",
             promises.Kept: "(columns)", promises.Kept.shows: "(self, stack, promise, *, shared=True)",
             promises.Broken: "(key, deeds)", promises.Broken.shows: "(self, stack, promise, *, shared=True)",
+            sessions.Keys: "(stack)", sessions.Keys.listed: "(self)", sessions.Keys.seen: "(self)",
+            sessions.Session: "(stack)", sessions.Session.do: "(self, key, deed)", sessions.Session.view: "(self)",
+            sessions.Session.stack: "(self)", sessions.Session.undo: "(self)", sessions.Session.branch: "(self)",
+            sessions.Session.attempt: "(self, work)", sessions.Session.tried: "(self, steps)",
+            texts.stack_text: "(stack)", texts.read_stack: "(text)",
+            hands.Hands: "(first, second, base)", hands.answers: "(hands, steps)", hands.place_after: "(hands, steps)",
+            hands.together: "(hands, word)", hands.least_steps: "(hands, word)", hands.words_kept: "(hands)",
+            hands.Together: "(places)", hands.Together.shows: "(self, hands, word)",
+            hands.Asunder: "(steps)", hands.Asunder.shows: "(self, hands, word)",
+            scopes.entered: "(stack, layer)", scopes.left: "(stack, *, poured=True)", scopes.faithful: "(stack, layer)",
+            scopes.is_faithful: "(stack, layer)", scopes.first_betrayal: "(stack, layer)",
+            scopes.Faithful: "(pairs)", scopes.Faithful.shows: "(self, stack, layer)",
+            scopes.Betrayal: "(key, deeds, poured)", scopes.Betrayal.shows: "(self, stack, layer)",
         }
         for thing, text in listed.items():
             self.assertEqual(str(inspect.signature(thing)), text, thing)
@@ -123,6 +149,9 @@ class FormTest(unittest.TestCase):
                 self.assertNotIsInstance(node, barred, name)
                 if isinstance(node, ast.Name):
                     self.assertNotIn(node.id, OTHER_WORDS, name)
+                if isinstance(node, ast.Try):
+                    self.assertEqual(node.handlers, [], name)
+                    self.assertEqual({type(row) for row in node.finalbody}, {ast.Assign}, name)
                 if isinstance(node, ast.Constant):
                     self.assertNotIsInstance(node.value, (float, complex), name)
                 if isinstance(node, ast.FunctionDef):
